@@ -1,0 +1,164 @@
+"""The window that the device watches, and the calls that write it."""
+
+SLOTS = 64
+SLOT_BYTES = 64
+SLOT_WORDS = 8
+WORD_BYTES = 8
+WORD_LIMIT = 18446744073709551616
+
+BELL_PLACE = 4096
+COUNT_PLACE = 4104
+SPARE_PLACE = 4112
+SPARE_BYTES = 48
+WINDOW_BYTES = 4160
+
+BEGIN = 0
+SEND = 1
+PATCH = 2
+FILL = 3
+MOVE = 4
+
+DONE = 0
+REFUSED = -1
+
+
+class UnknownCall(ValueError):
+    pass
+
+
+def is_slot(slot):
+    return 0 <= slot < SLOTS
+
+
+def number_from(content):
+    number = 0
+    for byte in reversed(content):
+        number = number * 256 + byte
+    return number
+
+
+def word_bytes(word):
+    return [(word >> (8 * k)) & 255 for k in range(WORD_BYTES)]
+
+
+def filled_slot(x, step, first):
+    content = []
+    for k in range(first, first + SLOT_WORDS):
+        content.extend(word_bytes((x + step * k) % WORD_LIMIT))
+    return tuple(content)
+
+
+# A slot is kept as one tuple and only ever replaced whole, so that the device,
+# whenever it looks, finds the old order or the new one and never half of one.
+class Window:
+    def __init__(self):
+        self.slots = [(0,) * SLOT_BYTES for k in range(SLOTS)]
+        self.bell = 0
+        self.count = 0
+        self.spare = (0,) * SPARE_BYTES
+
+    def begin(self, places, given):
+        content = [0] * WINDOW_BYTES
+        for place, byte in zip(places, given, strict=True):
+            content[place] = byte
+        for slot in range(SLOTS):
+            start = slot * SLOT_BYTES
+            self.slots[slot] = tuple(content[start:start + SLOT_BYTES])
+        self.bell = number_from(content[BELL_PLACE:COUNT_PLACE])
+        self.count = number_from(content[COUNT_PLACE:SPARE_PLACE])
+        self.spare = tuple(content[SPARE_PLACE:])
+        return [DONE]
+
+    def send(self, slot, message):
+        if not is_slot(slot):
+            return [REFUSED]
+        self.slots[slot] = tuple(message)
+        self.count = (self.count + 1) % WORD_LIMIT
+        # The bell comes last: it sends the device to a slot that must be ready.
+        self.bell = slot + 1
+        return [DONE]
+
+    # No length below 0 is asked about: it is that of the row itself.
+    def patch(self, slot, off, given):
+        end = off + len(given)
+        if not is_slot(slot) or end > SLOT_BYTES:
+            return [REFUSED]
+        held = self.slots[slot]
+        self.slots[slot] = held[:off] + tuple(given) + held[end:]
+        return [DONE]
+
+    def fill(self, slot, n, x, step):
+        if n < 0 or slot + n > SLOTS:
+            return [REFUSED]
+        for k in range(n):
+            self.slots[slot + k] = filled_slot(x, step, k * SLOT_WORDS)
+        return [DONE]
+
+    def move(self, source, to, n):
+        if n < 0 or source + n > SLOTS or to + n > SLOTS:
+            return [REFUSED]
+        # Held apart, as the two runs of slots may overlap.
+        held = self.slots[source:source + n]
+        for k in range(n):
+            self.slots[to + k] = held[k]
+        return [DONE]
+
+
+# Goes through the list by a place of its own, so that the list stays as it is.
+class Reader:
+    def __init__(self, calls):
+        self.calls = calls
+        self.place = 0
+
+    def at_end(self):
+        return self.place == len(self.calls)
+
+    def number(self):
+        found = self.calls[self.place]
+        self.place = self.place + 1
+        return found
+
+    def row(self):
+        length = self.number()
+        found = []
+        for k in range(length):
+            found.append(self.number())
+        return found
+
+
+def answer_next(window, reader):
+    call = reader.number()
+    if call == BEGIN:
+        places = reader.row()
+        return window.begin(places, reader.row())
+    if call == SEND:
+        slot = reader.number()
+        return window.send(slot, reader.row())
+    if call == PATCH:
+        slot = reader.number()
+        off = reader.number()
+        return window.patch(slot, off, reader.row())
+    if call == FILL:
+        slot = reader.number()
+        n = reader.number()
+        x = reader.number()
+        return window.fill(slot, n, x, reader.number())
+    if call == MOVE:
+        source = reader.number()
+        to = reader.number()
+        return window.move(source, to, reader.number())
+    raise UnknownCall(f"no call has the number {call}")
+
+
+def answers_in(window, calls):
+    reader = Reader(calls)
+    found = []
+    while not reader.at_end():
+        answer = answer_next(window, reader)
+        found.append(len(answer))
+        found.extend(answer)
+    return found
+
+
+def answers(calls):
+    return answers_in(Window(), calls)
