@@ -30,6 +30,22 @@ def move(source, to, n):
     return [4, source, to, n]
 
 
+def swap(i, j):
+    return [5, i, j]
+
+
+def take(slot):
+    return [6, slot]
+
+
+def bell(value):
+    return [7, value]
+
+
+def told():
+    return [8]
+
+
 def low_first(number):
     return list(number.to_bytes(8, "little"))
 
@@ -50,15 +66,35 @@ def full_content():
     return [1 + (place * 7 + place // 64 * 5) % 255 for place in range(4160)]
 
 
+def told_answer(content):
+    """What told answers of a window with these 4160 bytes, with its length before it."""
+    row = [number for place in range(4160) if content[place] for number in (place, content[place])]
+    return [1 + len(row), len(row) // 2, *row]
+
+
+def line(content, *calls):
+    """A whole line: begin with every place, the calls, told."""
+    return begin(list(range(4160)), content) + [number for call in calls for number in call] + told()
+
+
 class WindowCase(unittest.TestCase):
     # assertEqual would take minutes to tell two rows of 4160 bytes apart.
-    def assert_content(self, found, wanted, told=None):
-        self.assertEqual(len(found), 4160, told)
-        self.assertEqual(len(wanted), 4160, told)
+    def assert_content(self, found, wanted, remark=None):
+        self.assertEqual(len(found), 4160, remark)
+        self.assertEqual(len(wanted), 4160, remark)
         apart = [place for place in range(4160) if found[place] != wanted[place]]
         if apart:
             place = apart[0]
-            self.fail(f"{len(apart)} bytes differ, first at {place}: {found[place]}, not {wanted[place]}; {told}")
+            self.fail(f"{len(apart)} bytes differ, first at {place}: {found[place]}, not {wanted[place]}; {remark}")
+
+    # For the same reason not assertEqual.
+    def assert_answers(self, calls, wanted, remark=None):
+        found = answers(calls)
+        if found != wanted:
+            same = 0
+            while same < min(len(found), len(wanted)) and found[same] == wanted[same]:
+                same += 1
+            self.fail(f"from {same} on {found[same:same + 9]}.., not {wanted[same:same + 9]}..; {remark}")
 
     def window_with(self, content):
         window = Window()
@@ -67,15 +103,12 @@ class WindowCase(unittest.TestCase):
         self.assert_content(content_of(window), content)
         return window
 
-    def assert_done(self, call, before, after):
+    def assert_done(self, call, before, after, answer=DONE):
         window = self.window_with(before)
-        self.assertEqual(answers_in(window, call), DONE)
+        self.assertEqual(answers_in(window, call), answer)
         self.assert_content(content_of(window), after, call)
-        self.assertEqual(answers(begin() + call), DONE + DONE)
+        self.assert_answers(line(before, call), DONE + answer + told_answer(after), call)
 
     def assert_refused(self, call):
-        before = full_content()
-        window = self.window_with(before)
-        self.assertEqual(answers_in(window, call), REFUSED)
-        self.assert_content(content_of(window), before, call)
-        self.assertEqual(answers(begin() + call), DONE + REFUSED)
+        self.assert_done(call, full_content(), full_content(), REFUSED)
+        self.assert_done(call, [0] * 4160, [0] * 4160, REFUSED)

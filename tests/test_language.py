@@ -88,6 +88,22 @@ class LanguageTest(unittest.TestCase):
                 if isinstance(node, ast.Call) and isinstance(node.func, ast.Attribute):
                     self.assertIn(node.func.attr, own | set(METHODS))
 
+    def test_nothing_is_imported(self):
+        for text, tree in self.each_file():
+            for node in ast.walk(tree):
+                self.assertNotIsInstance(node, (ast.Import, ast.ImportFrom))
+
+    def test_no_name_is_a_method_and_a_value(self):
+        methods, values = set(), set()
+        for text, tree in self.each_file():
+            for node in ast.walk(tree):
+                if isinstance(node, ast.ClassDef):
+                    methods |= {part.name for part in node.body if isinstance(part, ast.FunctionDef)}
+                if isinstance(node, ast.Attribute) and isinstance(node.ctx, ast.Store):
+                    values.add(node.attr)
+        self.assertTrue(methods and values)
+        self.assertFalse(methods & values)
+
     def test_the_top_holds_plain_values_bound_once(self):
         for text, tree in self.each_file():
             names = []

@@ -17,6 +17,10 @@ SEND = 1
 PATCH = 2
 FILL = 3
 MOVE = 4
+SWAP = 5
+TAKE = 6
+BELL = 7
+TOLD = 8
 
 DONE = 0
 REFUSED = -1
@@ -46,6 +50,19 @@ def filled_slot(x, step, first):
     for k in range(first, first + SLOT_WORDS):
         content.extend(word_bytes((x + step * k) % WORD_LIMIT))
     return tuple(content)
+
+
+def turned_left(word):
+    return (word << 1) % WORD_LIMIT + (word >> 63)
+
+
+def check_of(content):
+    check = 0
+    for k in range(SLOT_WORDS):
+        start = k * WORD_BYTES
+        word = number_from(content[start:start + WORD_BYTES])
+        check = (turned_left(check) + word) % WORD_LIMIT
+    return check
 
 
 # A slot is kept as one tuple and only ever replaced whole, so that the device,
@@ -103,6 +120,39 @@ class Window:
             self.slots[to + k] = held[k]
         return [DONE]
 
+    def swap(self, i, j):
+        if not is_slot(i) or not is_slot(j):
+            return [REFUSED]
+        held = self.slots[i]
+        self.slots[i] = self.slots[j]
+        self.slots[j] = held
+        return [DONE]
+
+    def take(self, slot):
+        if not is_slot(slot):
+            return [REFUSED]
+        held = self.slots[slot]
+        self.slots[slot] = (0,) * SLOT_BYTES
+        return [DONE] + list(held) + word_bytes(check_of(held))
+
+    # Not called bell, as the number that it writes has that name.
+    def ring(self, value):
+        self.bell = value
+        return [DONE]
+
+    def whole(self):
+        content = []
+        for held in self.slots:
+            content.extend(held)
+        return content + word_bytes(self.bell) + word_bytes(self.count) + list(self.spare)
+
+    def told(self):
+        found = []
+        for place, byte in enumerate(self.whole()):
+            if byte != 0:
+                found.extend([place, byte])
+        return [len(found) // 2] + found
+
 
 # Goes through the list by a place of its own, so that the list stays as it is.
 class Reader:
@@ -147,6 +197,15 @@ def answer_next(window, reader):
         source = reader.number()
         to = reader.number()
         return window.move(source, to, reader.number())
+    if call == SWAP:
+        i = reader.number()
+        return window.swap(i, reader.number())
+    if call == TAKE:
+        return window.take(reader.number())
+    if call == BELL:
+        return window.ring(reader.number())
+    if call == TOLD:
+        return window.told()
     raise UnknownCall(f"no call has the number {call}")
 
 
